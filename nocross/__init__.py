@@ -1,0 +1,1 @@
+"""Nocross: places of a ring tied in groups that do not cross."""
