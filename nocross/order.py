@@ -1,7 +1,7 @@
 """Finer and coarser ties of one ring."""
 
 from nocross.errors import NotFiner, Unlike
-from nocross.ties import leaders
+from nocross.ties import gathered, leaders
 
 
 def _check_alike(one, other):
@@ -47,10 +47,7 @@ def finer(one, other):
 def shared(one, other):
     """Makes the coarsest tie that is finer than both."""
     _check_alike(one, other)
-    groups = {}
-    for place, pair in enumerate(zip(leaders(one), leaders(other))):
-        groups.setdefault(pair, []).append(place)
-    return (one[0], [tuple(group) for group in groups.values()])
+    return gathered(list(zip(leaders(one), leaders(other))))
 
 
 def joined(one, other):

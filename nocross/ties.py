@@ -82,6 +82,14 @@ def _least_crossing(groups):
     return None
 
 
+def gathered(marks):
+    """Makes the tie in which places of like marks stand in one group."""
+    groups = {}
+    for place, mark in enumerate(marks):
+        groups.setdefault(mark, []).append(place)
+    return (len(marks), [tuple(group) for group in groups.values()])
+
+
 def made(many, groups):
     """Makes a tie of groups; a place in none of them is a group by itself."""
     rising = _checked(many, groups)

@@ -1,7 +1,11 @@
 """What several tests use: ties made by the words of the document alone."""
 
+import copy
 import itertools
 import random
+
+NO_WHOLE_NUMBERS = [True, False, "3", "", b"3", 3.0, 1.5, None, [], [3], (3,), {}, {3}]
+BAD_COUNTS = [0, 61, -1, -60, 10 ** 5000, -10 ** 5000] + NO_WHOLE_NUMBERS
 
 
 def partitions(many):
@@ -61,6 +65,17 @@ def crosses(groups):
     return False
 
 
+def like_tie(many, like):
+    """The groups of places that are like each other, each pair asked."""
+    groups = {tuple(other for other in range(many) if like(place, other)) for place in range(many)}
+    return (many, sorted(groups))
+
+
+def first_places(tie):
+    """For each place the first one of its group, by the words of point 6."""
+    return [min(group) for place in range(tie[0]) for group in tie[1] if place in group]
+
+
 def lies_within(one, other):
     """Whether each group of one lies within a group of the other."""
     return all(any(set(group) <= set(wide) for wide in other[1]) for group in one[1])
@@ -98,3 +113,17 @@ def some_ties(many, count, seed):
                 groups.append(pending[-1])
         ties.append((many, [tuple(group) for group in groups]))
     return ties
+
+
+def tells_own(ask, *handed):
+    """Whether what is told changes neither what is handed in nor what is told else."""
+    before = copy.deepcopy(handed)
+    first, second = ask(*handed), ask(*handed)
+    expected = copy.deepcopy(first)
+    first[1].clear()
+    first[1].append("x")
+    kept = handed == before and second == expected and ask(*handed) == expected
+    for tie in handed:
+        if isinstance(tie, tuple):
+            tie[1].clear()
+    return kept and second == expected and ask(*before) == expected

@@ -2,7 +2,8 @@
 
 import unittest
 
-from rings import all_ties, closed, crosses, is_tie, least_crossing, lies_within, partitions, some_ties
+from rings import all_ties, closed, crosses, first_places, is_tie, least_crossing, lies_within, like_tie
+from rings import partitions, some_ties, tells_own
 
 
 class Helpers(unittest.TestCase):
@@ -34,6 +35,20 @@ class Helpers(unittest.TestCase):
             coarser = [tie for tie in all_ties(5) if lies_within((5, groups), tie)]
             self.assertIn(told, coarser)
             self.assertTrue(all(lies_within(told, tie) for tie in coarser))
+
+    def test_like_tie(self):
+        self.assertEqual(like_tie(5, lambda one, other: one % 3 == other % 3), (5, [(0, 3), (1, 4), (2,)]))
+
+    def test_first_places(self):
+        self.assertEqual(first_places((6, [(0, 2, 3), (1,), (4, 5)])), [0, 1, 0, 0, 4, 4])
+
+    def test_tells_own(self):
+        kept = (1, [(0,)])
+        self.assertTrue(tells_own(lambda tie: (tie[0], list(tie[1])), (1, [(0,)])))
+        self.assertFalse(tells_own(lambda tie: tie, (1, [(0,)])))
+        self.assertFalse(tells_own(lambda tie: (tie[0], tie[1]), (1, [(0,)])))
+        self.assertFalse(tells_own(lambda: kept))
+        self.assertFalse(tells_own(lambda tie: (1, [tie[1].pop()]), (2, [(0,), (1,)])))
 
     def test_some_ties(self):
         ties = some_ties(60, 20, 1)

@@ -7,11 +7,8 @@ import unittest
 from nocross import ties
 from nocross.errors import BadCount, BadGroup, Crossed, NoPlace, Twice
 from nocross.ties import MOST, coarsest, crossing, finest, group_of, leaders, made, tied
-from rings import all_ties, is_tie, least_crossing, partitions, some_ties
+from rings import BAD_COUNTS, all_ties, is_tie, least_crossing, partitions, some_ties
 
-BAD_COUNTS = [
-    0, 61, -1, -60, 10 ** 5000, True, False, "3", "", b"3", 3.0, 1.5, None, [], [3], (3,), {}, {3},
-]
 NO_PLACES = [5, 6, -1, -5, 60, 10 ** 5000, True, False, "0", "", b"0", 0.0, None, [], [0], (0,), {}]
 
 
